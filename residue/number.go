@@ -14,6 +14,15 @@ type Number [4]uint64
 // Odd tells whether the number is odd.
 func (n Number) Odd() bool { return n[0]&1 == 1 }
 
+// Bits are count ones of the number, the first of which has the value 2^from: 0 beyond the last one.
+func (n Number) Bits(from, count int) int {
+	bits := 0
+	for i := min(from+count, numberBits) - 1; i >= from; i-- {
+		bits = bits<<1 | int(n[i/wordBits]>>(i%wordBits)&1)
+	}
+	return bits
+}
+
 // Bytes are the 32 of the number, the highest first, in new memory.
 func (n Number) Bytes() []byte {
 	b := make([]byte, numberBytes)
@@ -34,8 +43,10 @@ func fromBytes(b []byte) Number {
 	return n
 }
 
-// bit is the bit of the value 2^i.
-func (n Number) bit(i int) uint64 { return n[i/wordBits] >> (i % wordBits) & 1 }
+// quarter is a fourth of the number, without what is left over.
+func (n Number) quarter() Number {
+	return Number{n[0]>>2 | n[1]<<62, n[1]>>2 | n[2]<<62, n[2]>>2 | n[3]<<62, n[3] >> 2}
+}
 
 // word and putWord are written out, because the compiler makes one step of them then.
 func word(b []byte) uint64 {

@@ -44,19 +44,31 @@ func (p Prime) Reduce(b []byte) Number {
 }
 
 // Plus is the sum.
-func (p Prime) Plus(a, b Number) Number {
-	sum, over := plus(four(a), four(b))
-	if less, fits := plus(sum, p.gap); over|fits != 0 {
-		sum = less
-	}
-	return sum.number()
-}
+func (p Prime) Plus(a, b Number) Number { return p.sum(four(a), four(b)).number() }
 
 // Minus is the difference.
-func (p Prime) Minus(a, b Number) Number {
-	rest, under := minus(four(a), four(b))
-	if under != 0 {
-		rest, _ = minus(rest, p.gap)
+func (p Prime) Minus(a, b Number) Number { return p.difference(four(a), four(b)).number() }
+
+// Times is the product.
+func (p Prime) Times(a, b Number) Number { return p.product(four(a), four(b)).number() }
+
+// Inverse is the number whose product with a is 1, and 0 of 0: a to the power of the prime is a, so two times fewer is its inverse.
+func (p Prime) Inverse(a Number) Number {
+	exponent := p.Modulus()
+	exponent[0] -= 2
+	return p.power(a, exponent)
+}
+
+// Root is the even one of the two numbers whose square is a, if there are any. It finds those of Coordinates alone: that prime is one less than a multiple of 4, so a to the power of a quarter of that multiple is a root, if there is one.
+func (p Prime) Root(a Number) (Number, bool) {
+	exponent := p.Modulus().quarter()
+	exponent[0]++
+	root := p.power(a, exponent)
+	if p.Times(root, root) != a {
+		return Number{}, false
 	}
-	return rest.number()
+	if root.Odd() {
+		root = p.Minus(Number{}, root)
+	}
+	return root, true
 }

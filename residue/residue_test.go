@@ -85,6 +85,44 @@ func TestTwoAtTheEdges(t *testing.T) {
 	}
 }
 
+// A coordinate is another way to write down the same steps.
+func TestCoordinatesAtTheEdges(t *testing.T) {
+	k := kinds()[0]
+	all := edges(k)
+	for _, a := range all {
+		for _, b := range all {
+			x, y := a.Coordinate(), b.Coordinate()
+			same(t, "Plus", a, b, x.Plus(y), k.prime.Plus(a, b))
+			same(t, "Minus", a, b, x.Minus(y), k.prime.Minus(a, b))
+			same(t, "Times", a, b, x.Times(y), k.prime.Times(a, b))
+			if (x == y) != (a == b) {
+				t.Fatalf("%x and %x as coordinates: the same: %v", a, b, x == y)
+			}
+		}
+	}
+}
+
+func same(t *testing.T, what string, a, b residue.Number, got residue.Coordinate, want residue.Number) {
+	t.Helper()
+	if got.Number() != want || got != want.Coordinate() {
+		t.Fatalf("%x %s %x: %x, want %x", a, what, b, got.Number(), want)
+	}
+}
+
+func TestBits(t *testing.T) {
+	for _, a := range edges(kinds()[0]) {
+		for from := range 270 {
+			for _, count := range []int{0, 1, 2, 4, 5, 31} {
+				want := new(big.Int).Rsh(toBig(a), uint(from))
+				want.And(want, new(big.Int).Sub(power(uint(count)), big.NewInt(1)))
+				if got := a.Bits(from, count); int64(got) != want.Int64() {
+					t.Fatalf("%x: %d bits from %d on: %x, want %x", a, count, from, got, want)
+				}
+			}
+		}
+	}
+}
+
 func check(t *testing.T, k kind, what string, a, b, got residue.Number, want *big.Int) {
 	t.Helper()
 	if toBig(got).Cmp(want.Mod(want, k.big)) != 0 {
