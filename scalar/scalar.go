@@ -23,6 +23,9 @@ func Read(b []byte) (Scalar, bool) {
 	return Scalar{n}, ok
 }
 
+// Of is the scalar of a small number.
+func Of(n uint64) Scalar { return Scalar{residue.Number{n}} }
+
 // Chance is a scalar that hangs on a label and parts: whoever does not know all of them cannot guess it.
 func Chance(label string, parts ...[]byte) Scalar {
 	b, _ := sponge.Stream(sponge.Tag(label, parts), wide)

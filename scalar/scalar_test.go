@@ -77,6 +77,12 @@ func TestZero(t *testing.T) {
 	}
 }
 
+func TestOf(t *testing.T) {
+	for _, n := range []uint64{0, 1, 2, 255, 1 << 63, 1<<64 - 1} {
+		same(t, "Of", scalar.Of(n), new(big.Int).SetUint64(n))
+	}
+}
+
 func TestReadOfNone(t *testing.T) {
 	none := [][]byte{nil, {}, {1}, make([]byte, 31), make([]byte, 33), make([]byte, 64), bytes.Repeat([]byte{255}, 32)}
 	for n := range int64(3) {

@@ -1,6 +1,9 @@
 package sigma
 
-import "mintvault/scalar"
+import (
+	"mintvault/curve"
+	"mintvault/scalar"
+)
 
 // answerTo hides the secret behind the nonce.
 func answerTo(challenge, nonce, secret scalar.Scalar) scalar.Scalar {
@@ -8,6 +11,9 @@ func answerTo(challenge, nonce, secret scalar.Scalar) scalar.Scalar {
 }
 
 // firstOf is what the first message must have been for the answer to be right: whoever looks needs no nonce for it.
-func firstOf(base, public point, challenge, answer scalar.Scalar) point {
-	return sum(term{answer, base}, term{challenge.Opposite(), public})
+func firstOf(base, public curve.Point, challenge, answer scalar.Scalar) curve.Point {
+	return base.Times(answer).Minus(public.Times(challenge)).Point()
 }
+
+// times is worked out on the spot.
+func times(n scalar.Scalar, a curve.Point) curve.Point { return a.Times(n).Point() }

@@ -1,8 +1,11 @@
 package sigma
 
-import "mintvault/scalar"
+import (
+	"mintvault/curve"
+	"mintvault/scalar"
+)
 
-func openChallenge(commit, first point) scalar.Scalar {
+func openChallenge(commit, first curve.Point) scalar.Scalar {
 	log := scalar.NewLog("open")
 	log.Say("commit", commit[:])
 	log.Say("first", first[:])

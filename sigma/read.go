@@ -3,21 +3,10 @@ package sigma
 import (
 	"slices"
 
+	"mintvault/curve"
+	"mintvault/parse"
 	"mintvault/scalar"
 )
-
-// allOf reads all of them, or none.
-func allOf[T any](read func([]byte) (T, bool), given ...[]byte) ([]T, bool) {
-	all := make([]T, len(given))
-	for i, b := range given {
-		one, ok := read(b)
-		if !ok {
-			return nil, false
-		}
-		all[i] = one
-	}
-	return all, true
-}
 
 // readSecret takes bytes as a scalar that is not 0: that one hides nothing.
 func readSecret(b []byte) (scalar.Scalar, bool) {
@@ -26,12 +15,12 @@ func readSecret(b []byte) (scalar.Scalar, bool) {
 }
 
 // readProof takes bytes as so many points and behind them so many scalars, if they are just that.
-func readProof(b []byte, points, scalars int) ([]point, []scalar.Scalar, bool) {
-	edge := points * pointBytes
+func readProof(b []byte, points, scalars int) ([]curve.Point, []scalar.Scalar, bool) {
+	edge := points * curve.Size
 	if len(b) != edge+scalars*scalar.Size {
 		return nil, nil, false
 	}
-	p, okPoints := allOf(readPoint, slices.Collect(slices.Chunk(b[:edge], pointBytes))...)
-	s, okScalars := allOf(scalar.Read, slices.Collect(slices.Chunk(b[edge:], scalar.Size))...)
+	p, okPoints := parse.All(curve.Read, slices.Collect(slices.Chunk(b[:edge], curve.Size))...)
+	s, okScalars := parse.All(scalar.Read, slices.Collect(slices.Chunk(b[edge:], scalar.Size))...)
 	return p, s, okPoints && okScalars
 }

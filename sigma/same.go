@@ -1,17 +1,20 @@
 package sigma
 
-import "mintvault/scalar"
+import (
+	"mintvault/curve"
+	"mintvault/scalar"
+)
 
 // pair is what one scalar makes of G, and of a base.
 type pair struct {
-	a, b point
+	a, b curve.Point
 }
 
-func pairOf(n scalar.Scalar, base point) pair {
-	return pair{times(n, generator()), times(n, base)}
+func pairOf(n scalar.Scalar, base curve.Point) pair {
+	return pair{times(n, curve.Generator()), times(n, base)}
 }
 
-func sameChallenge(base point, public, first pair) scalar.Scalar {
+func sameChallenge(base curve.Point, public, first pair) scalar.Scalar {
 	log := scalar.NewLog("same")
 	log.Say("base", base[:])
 	log.Say("a", public.a[:])

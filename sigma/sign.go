@@ -1,17 +1,20 @@
 package sigma
 
-import "mintvault/scalar"
+import (
+	"mintvault/curve"
+	"mintvault/scalar"
+)
 
 const maxBatch = 64
 
 // signed is a signature, and what is needed to look at it.
 type signed struct {
-	public, first     point
+	public, first     curve.Point
 	challenge, answer scalar.Scalar
 }
 
 func readSigned(public, text, signature []byte) (signed, bool) {
-	p, okPublic := readSome(public)
+	p, okPublic := curve.ReadSome(public)
 	first, answer, okProof := readProof(signature, 1, 1)
 	if !okPublic || !okProof {
 		return signed{}, false
@@ -20,10 +23,10 @@ func readSigned(public, text, signature []byte) (signed, bool) {
 }
 
 func (s signed) right() bool {
-	return firstOf(generator(), s.public, s.challenge, s.answer) == s.first
+	return firstOf(curve.Generator(), s.public, s.challenge, s.answer) == s.first
 }
 
-func signChallenge(public, first point, text []byte) scalar.Scalar {
+func signChallenge(public, first curve.Point, text []byte) scalar.Scalar {
 	log := scalar.NewLog("sign")
 	log.Say("public", public[:])
 	log.Say("first", first[:])
@@ -49,11 +52,11 @@ func weights(publics, texts, signatures [][]byte) []scalar.Scalar {
 // rightTogether makes one sum of all, so that what a sum doubles on its way is doubled once for all of them.
 func rightTogether(all []signed, weights []scalar.Scalar) bool {
 	var answers scalar.Scalar
-	var terms []term
+	var points curve.Sum
 	for i, s := range all {
 		w := weights[i]
 		answers = answers.Plus(w.Times(s.answer))
-		terms = append(terms, term{w, s.first}, term{w.Times(s.challenge), s.public})
+		points = points.Plus(s.first.Times(w)).Plus(s.public.Times(w.Times(s.challenge)))
 	}
-	return sum(terms...) == times(answers, generator())
+	return points.Point() == times(answers, curve.Generator())
 }
