@@ -23,6 +23,12 @@ func Read(b []byte) (Scalar, bool) {
 	return Scalar{n}, ok
 }
 
+// ReadSome takes bytes as a scalar that is not 0: that one makes nothing of every point, and so hides nothing.
+func ReadSome(b []byte) (Scalar, bool) {
+	a, ok := Read(b)
+	return a, ok && a != Scalar{}
+}
+
 // Of is the scalar of a small number.
 func Of(n uint64) Scalar { return Scalar{residue.Number{n}} }
 

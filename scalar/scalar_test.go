@@ -92,6 +92,19 @@ func TestReadOfNone(t *testing.T) {
 		if s, ok := scalar.Read(b); ok || s != (scalar.Scalar{}) {
 			t.Errorf("%x is no scalar", b)
 		}
+		if s, ok := scalar.ReadSome(b); ok || s != (scalar.Scalar{}) {
+			t.Errorf("%x is no scalar that is some", b)
+		}
+	}
+}
+
+func TestReadSome(t *testing.T) {
+	for _, n := range edges() {
+		s, ok := scalar.ReadSome(of(n))
+		if ok != (n.Sign() != 0) {
+			t.Errorf("%x: ReadSome: %v", n, ok)
+		}
+		same(t, "ReadSome", s, n)
 	}
 }
 

@@ -8,12 +8,6 @@ import (
 	"mintvault/scalar"
 )
 
-// readSecret takes bytes as a scalar that is not 0: that one hides nothing.
-func readSecret(b []byte) (scalar.Scalar, bool) {
-	x, ok := scalar.Read(b)
-	return x, ok && x != scalar.Scalar{}
-}
-
 // readProof takes bytes as so many points and behind them so many scalars, if they are just that.
 func readProof(b []byte, points, scalars int) ([]curve.Point, []scalar.Scalar, bool) {
 	edge := points * curve.Size
