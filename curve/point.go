@@ -1,4 +1,4 @@
-// Package curve has points as values, and sums of them that are worked out late: what proofs are made with.
+// Package curve has points as values, and sums of them that are worked out late: what proofs and keys are made with.
 package curve
 
 import (

@@ -1,4 +1,4 @@
-// Package scalar has scalars as values, and a log that knows of them: what proofs are made with.
+// Package scalar has scalars as values, and a log that knows of them: what proofs and keys are made with.
 package scalar
 
 import (
@@ -33,9 +33,12 @@ func ReadSome(b []byte) (Scalar, bool) {
 func Of(n uint64) Scalar { return Scalar{residue.Number{n}} }
 
 // Chance is a scalar that hangs on a label and parts: whoever does not know all of them cannot guess it.
-func Chance(label string, parts ...[]byte) Scalar {
-	b, _ := sponge.Stream(sponge.Tag(label, parts), wide)
-	return reduced(b)
+func Chance(label string, parts ...[]byte) Scalar { return Spread(sponge.Tag(label, parts)) }
+
+// Spread is a scalar that hangs on bytes, and may be any of them.
+func Spread(b []byte) Scalar {
+	long, _ := sponge.Stream(b, wide)
+	return reduced(long)
 }
 
 func reduced(b []byte) Scalar { return Scalar{residue.Scalars().Reduce(b)} }
@@ -57,3 +60,11 @@ func (a Scalar) Opposite() Scalar { return Scalar{}.Minus(a) }
 
 // Inverse is the scalar whose product with this one is 1, and 0 of 0.
 func (a Scalar) Inverse() Scalar { return Scalar{residue.Scalars().Inverse(a.number)} }
+
+// OrOne is the scalar itself, or 1 in place of 0: for what is divided by, or is a key.
+func (a Scalar) OrOne() Scalar {
+	if a == (Scalar{}) {
+		return Of(1)
+	}
+	return a
+}

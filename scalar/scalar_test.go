@@ -128,6 +128,22 @@ func TestChance(t *testing.T) {
 	}
 }
 
+func TestSpread(t *testing.T) {
+	for _, b := range [][]byte{nil, {}, {0}, []byte("a"), make([]byte, 32), make([]byte, 135), make([]byte, 136), make([]byte, 500)} {
+		same(t, "Spread", scalar.Spread(b), stream(b))
+	}
+}
+
+// No bytes are known that spread to 0, and no log whose challenge is 0: what becomes of it there is held here.
+func TestOrOne(t *testing.T) {
+	same(t, "OrOne of 0", scalar.Scalar{}.OrOne(), count(1))
+	same(t, "OrOne of 0, as it is read", read(t, count(0)).OrOne(), count(1))
+	same(t, "OrOne of what became 0", scalar.Of(7).Minus(scalar.Of(7)).OrOne(), count(1))
+	for _, n := range edges()[1:] {
+		same(t, "OrOne", read(t, n).OrOne(), n)
+	}
+}
+
 // A log goes on with each scalar that it is asked for, and with all that is said between them.
 func TestLog(t *testing.T) {
 	state := tag("log", []byte("label"))

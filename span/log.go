@@ -13,14 +13,7 @@ type log struct {
 func newLog(label string) log { return log{scalar.NewLog(label)} }
 
 // Challenge stands ahead of the one that the log has from within.
-func (l log) Challenge() scalar.Scalar { return orOne(l.Log.Challenge()) }
-
-func orOne(n scalar.Scalar) scalar.Scalar {
-	if n == (scalar.Scalar{}) {
-		return scalar.Of(1)
-	}
-	return n
-}
+func (l log) Challenge() scalar.Scalar { return l.Log.Challenge().OrOne() }
 
 // challengeAfter says two points ahead of asking.
 func (l log) challengeAfter(firstLabel string, first curve.Point, secondLabel string, second curve.Point) scalar.Scalar {
