@@ -67,15 +67,16 @@ func (w *Wallet) spending(r api.Request, amount uint64, sums ...uint64) (change,
 	if amount > w.Balance() {
 		return nil, api.ErrFunds
 	}
-	r.In = w.takeLeast(amount)
-	if len(r.In) > maxEntries {
+	places := w.takeLeast(amount)
+	if len(places) > maxEntries {
 		return nil, api.ErrLong
 	}
-	return w.asking(r, r.In, append(sums, worth(r.In)-amount)...)
+	r.In = w.at(places)
+	return w.asking(r, places, append(sums, worth(r.In)-amount)...)
 }
 
-// asking opens a request for outputs that make these sums, one behind the other.
-func (w *Wallet) asking(r api.Request, taken []api.Token, sums ...uint64) (change, api.Errno) {
+// asking opens a request for outputs that make these sums, one behind the other. The tokens at these places are taken for it.
+func (w *Wallet) asking(r api.Request, places []int, sums ...uint64) (change, api.Errno) {
 	var amounts []uint64
 	for _, sum := range sums {
 		parts, errno := keys.Split(sum)
@@ -88,9 +89,9 @@ func (w *Wallet) asking(r api.Request, taken []api.Token, sums ...uint64) (chang
 		return nil, api.ErrLong
 	}
 	return func() []api.Token {
-		w.open = &asked{request: r, first: w.used, amounts: amounts, taken: taken}
+		w.open = &asked{request: r, first: w.used, amounts: amounts, taken: w.at(places)}
 		w.used += uint32(len(amounts))
-		w.drop(taken)
+		w.drop(places)
 		return nil
 	}, api.OK
 }
@@ -102,7 +103,8 @@ func (w *Wallet) send(c call) (change, api.Errno) {
 	if c.amount > w.Balance() {
 		return nil, api.ErrFunds
 	}
-	taken := w.takeJust(c.amount)
+	places := w.takeJust(c.amount)
+	taken := w.at(places)
 	if worth(taken) != c.amount {
 		return nil, api.ErrNone
 	}
@@ -110,7 +112,7 @@ func (w *Wallet) send(c call) (change, api.Errno) {
 		return nil, api.ErrLong
 	}
 	return func() []api.Token {
-		w.drop(taken)
+		w.drop(places)
 		return taken
 	}, api.OK
 }

@@ -10,36 +10,52 @@ import (
 	"mintvault/keys"
 )
 
-// takeLeast are the first tokens that are worth at least an amount. The wallet has that much.
-func (w *Wallet) takeLeast(amount uint64) []api.Token {
-	n := 0
-	for sum := uint64(0); sum < amount; n++ {
+// takeLeast are the places of the first tokens that are worth at least an amount. The wallet has that much.
+func (w *Wallet) takeLeast(amount uint64) []int {
+	var places []int
+	for sum := uint64(0); sum < amount; {
+		n := len(places)
+		places = append(places, n)
 		sum += w.tokens[n].Amount
 	}
-	return w.tokens[:n]
+	return places
 }
 
-// takeJust are tokens that are worth an amount, or less, if they do not make it.
-func (w *Wallet) takeJust(amount uint64) []api.Token {
-	sorted := slices.Clone(w.tokens)
-	slices.SortStableFunc(sorted, func(a, b api.Token) int { return cmp.Compare(b.Amount, a.Amount) })
-	var taken []api.Token
-	for _, t := range sorted {
-		if t.Amount <= amount {
-			taken = append(taken, t)
+// takeJust are the places of tokens that are worth an amount, or less, if they do not make it.
+func (w *Wallet) takeJust(amount uint64) []int {
+	sorted := make([]int, len(w.tokens))
+	for place := range sorted {
+		sorted[place] = place
+	}
+	slices.SortStableFunc(sorted, func(a, b int) int { return cmp.Compare(w.tokens[b].Amount, w.tokens[a].Amount) })
+	var places []int
+	for _, place := range sorted {
+		if t := w.tokens[place]; t.Amount <= amount {
+			places = append(places, place)
 			amount -= t.Amount
 		}
 	}
-	return taken
+	return places
 }
 
-// drop leaves the wallet without some of its tokens. No two of these have the same secret.
-func (w *Wallet) drop(gone []api.Token) {
-	secrets := secretsOf(gone)
-	w.tokens = slices.DeleteFunc(slices.Clone(w.tokens), func(t api.Token) bool {
-		_, there := secrets[string(t.Secret)]
-		return there
-	})
+// at are the tokens at these places.
+func (w *Wallet) at(places []int) []api.Token {
+	var l []api.Token
+	for _, place := range places {
+		l = append(l, w.tokens[place])
+	}
+	return l
+}
+
+// drop leaves the wallet without the tokens at these places. Nothing that a token says tells it apart: another may say the same.
+func (w *Wallet) drop(places []int) {
+	var rest []api.Token
+	for place, t := range w.tokens {
+		if !slices.Contains(places, place) {
+			rest = append(rest, t)
+		}
+	}
+	w.tokens = rest
 }
 
 func secretsOf(l []api.Token) map[string]struct{} {
