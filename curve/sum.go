@@ -31,7 +31,7 @@ func (s Sum) Plus(t Sum) Sum { return slices.Concat(s, t) }
 // Minus is the one less the other.
 func (s Sum) Minus(t Sum) Sum { return s.Plus(t.Times(scalar.Of(1).Opposite())) }
 
-// Point works it out, all terms together, so that what is doubled on the way is doubled once for all of them. There may be as many different points as group.Sum takes: no proof has so many.
+// Point works it out, all terms together, so that what is doubled on the way is doubled once for all of them. There may be as many different points as group.Sum takes: no proof has so many, and no books have.
 func (s Sum) Point() Point {
 	var n, a [][]byte
 	for _, t := range s.merged() {
